@@ -1,0 +1,1 @@
+"""Shelfbots: two robots that move boxes on one shelf."""

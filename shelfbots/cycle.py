@@ -1,0 +1,39 @@
+"""The ticks of a plan up to the end of its first cycle (point 6 of the document)."""
+
+from shelfbots.errors import TooLong
+from shelfbots.limits import LAST_TICK_TO_REPEAT
+from shelfbots.situation import Situation
+
+
+class Run:
+    """What happens by a plan; all later ticks repeat those that are kept here."""
+
+    def __init__(self, plan):
+        situation = Situation(plan)
+        ticks = {}
+        words = []
+        before = situation.frozen()
+        while before not in ticks:
+            if len(ticks) == LAST_TICK_TO_REPEAT:
+                raise TooLong(f"no situation comes again up to tick {LAST_TICK_TO_REPEAT}")
+            ticks[before] = len(ticks)
+            words.append(situation.pass_tick())
+            before = situation.frozen()
+        self.situations = list(ticks)
+        self.words = words
+        self.begin = ticks[before]
+        self.length = len(ticks) - self.begin
+
+    def kept_tick(self, tick):
+        """Returns the first tick that has the same situation as a tick."""
+        if tick < self.begin:
+            return tick
+        return self.begin + (tick - self.begin) % self.length
+
+    def situation_before(self, tick):
+        """Returns the frozen situation before a tick."""
+        return self.situations[self.kept_tick(tick)]
+
+    def words_in(self, tick):
+        """Returns the tuple of what both robots do in a tick."""
+        return self.words[self.kept_tick(tick)]
