@@ -1,8 +1,8 @@
-"""The ticks of a plan up to the end of its first cycle (point 6 of the document)."""
+"""The ticks of a plan up to the end of its first cycle (points 6 and 7 of the document)."""
 
 from shelfbots.errors import TooLong
 from shelfbots.limits import LAST_TICK_TO_REPEAT
-from shelfbots.situation import Situation
+from shelfbots.situation import BLOCKED, Situation
 
 
 class Run:
@@ -37,3 +37,7 @@ class Run:
     def words_in(self, tick):
         """Returns the tuple of what both robots do in a tick."""
         return self.words[self.kept_tick(tick)]
+
+    def is_stuck(self, robot):
+        """Tells whether a robot is blocked in all ticks of the cycle."""
+        return all([words[robot] == BLOCKED for words in self.words[self.begin:]])

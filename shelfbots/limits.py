@@ -1,10 +1,12 @@
-"""The limits of point 6 of the document, and the checks of ticks."""
+"""The limits of ticks and numbers (points 5 to 8 of the document), and their checks."""
 
-from shelfbots.errors import InvalidTick
+from shelfbots.errors import InvalidNumber, InvalidTick
 
 LAST_TICK = 10 ** 18
 LONGEST_TRACE = 500
 LAST_TICK_TO_REPEAT = 20000
+ROBOTS = (0, 1)
+MOST_WAITS = 3
 
 
 def is_number(value):
@@ -24,3 +26,15 @@ def check_last_tick(first, last):
     latest = min(first + LONGEST_TRACE - 1, LAST_TICK)
     if not is_number(last) or last < first - 1 or last > latest:
         raise InvalidTick(f"the last tick is an integer from {first - 1} to {latest}")
+
+
+def check_robot(number):
+    """Raises InvalidNumber if a value is not the number of a robot."""
+    if not is_number(number) or number not in ROBOTS:
+        raise InvalidNumber("a robot has the number 0 or 1")
+
+
+def check_limit(limit):
+    """Raises InvalidNumber if a value is not a limit of waits."""
+    if not is_number(limit) or limit < 0 or limit > MOST_WAITS:
+        raise InvalidNumber(f"a limit of waits is an integer from 0 to {MOST_WAITS}")

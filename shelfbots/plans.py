@@ -27,6 +27,20 @@ def read_plan(text):
     """Returns the plan of a text, or raises SyntaxFault or CheckFault."""
     tokens = parse_plan(text)
     check_plan(tokens)
+    return linked_plan(tokens)
+
+
+def read_two_plans(text, other):
+    """Returns the list of the plans of two texts, or raises SyntaxFault or CheckFault."""
+    # A SyntaxFault of either text comes before a CheckFault of either text.
+    both = [parse_plan(text), parse_plan(other)]
+    for tokens in both:
+        check_plan(tokens)
+    return [linked_plan(tokens) for tokens in both]
+
+
+def linked_plan(tokens):
+    """Returns the plan of tokens in which no error is left."""
     boxes = [int(number.text) for number in tokens.numbers]
     first_cells = tuple([int(robot.start.text) for robot in tokens.robots])
     steps = tuple([linked_steps(robot.steps) for robot in tokens.robots])

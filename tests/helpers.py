@@ -7,6 +7,9 @@ EXAMPLE = "shelf 1 0 0; robot 0 { pick; right; put; left; } robot 2 { wait; }"
 
 # Values of the kinds that a caller may pass where an error is listed, without integers and strings.
 NOT_INTEGERS_NOT_STRINGS = (True, False, None, (), [], (0,), [0], (0, 1), ["a", [None, (True,)]])
+LAST_TICK = 10 ** 18
+NOT_TICKS = (*NOT_INTEGERS_NOT_STRINGS, -1, -2, -LAST_TICK, LAST_TICK + 1, 2 * LAST_TICK, 10 ** 30, "", "0", "a")
+NOT_ROBOTS = (*NOT_INTEGERS_NOT_STRINGS, -1, -2, 2, 3, LAST_TICK, -LAST_TICK, "", "0", "1", "robot")
 
 # These plans were found by a search; another program told how soon they repeat.
 # The first situation that comes again is the one before tick 32, and it does so at tick 20,000.
@@ -62,6 +65,41 @@ robot 4 {
   sj: held si; right; empty sg; sm: left; held sb;
 }
 """
+# No robot is stuck by this plan, but it does not repeat early if the robots start in the cells 1 and 4.
+OTHER_STARTS_TOO_LONG = """
+shelf 0 2 2 1 1 0 0 0 0 0 0 2;
+robot 1 {
+  right; sb: wait; held sd; sd: empty sm; se: held sk; pick; sg: wait; empty se; left; goto sb; sk: put;
+  goto sg; sm: right; right;
+}
+robot 3 {
+  held si; sb: goto sf; sc: goto sm; sd: wait; goto sj; sf: empty sc; sg: wait; held sg; si: goto sd;
+  sj: held si; right; empty sg; sm: left; held sb;
+}
+"""
+# Both robots are stuck from tick 17,911 on. With a wait at (0, 0) they are, too; with one at (0, 1), the plan does
+# not repeat early; no single wait helps.
+WAIT_TOO_LONG = """
+shelf 0 0 0 0 0 1 1 2 0 0 0 1;
+robot 6 {
+  sa: right; right; empty sf; sd: left; empty sd; sf: left; held sk; empty sa; pick; held sa; sk: put;
+}
+robot 0 { pick; left; wait; put; pick; put; wait; left; si: left; goto si; put; put; }
+"""
+# Both robots are stuck. A wait at (0, 0) helps; with one at (0, 8), which is tried later, the plan is too long.
+WAIT_BEFORE_TOO_LONG = """
+shelf 0 1 1 3 0 0 0 0 0 1 0 1;
+robot 9 {
+  pick; sb: wait; held sg; sd: goto sf; se: put; sf: held se; sg: empty sj; sh: left; empty sh; sj: right;
+  wait; held sd; empty sb;
+}
+robot 6 {
+  sa: right; wait; held se; sd: left; se: right; left; wait; held sn; empty sd; wait; pick; empty sa; held sd;
+  sn: put;
+}
+"""
+# No robot is stuck by this plan; with a wait at (0, 0), it does not repeat early.
+NO_WAIT_BEFORE_TOO_LONG = FAR_TOO_LONG.replace("sd: wait; goto sj;", "sd: goto sj;")
 
 
 def plan_of(shelf, first, second):

@@ -3,8 +3,11 @@
 import copy
 import unittest
 
+from shelfbots.comparison import first_difference, first_error
 from shelfbots.formatter import count_steps, format_plan
+from shelfbots.locks import count_blocked, count_done, lock_tick, stuck_from, stuck_robots, unused_steps
 from shelfbots.machine import boxes, cells, find_cycle, holding, trace
+from shelfbots.planning import free_starts, plan_waits
 from tests.helpers import EXAMPLE, NOT_INTEGERS_NOT_STRINGS, error_of, fault_of, plan_of
 
 BOTH_HOLD = plan_of("1 2 3", (0, "pick; wait;"), (2, "pick; wait;"))
@@ -14,8 +17,11 @@ def all_of(plan, first, last):
     return list(trace(plan, first, last))
 
 
-ON_PLANS = (format_plan, count_steps, find_cycle)
+ON_PLANS = (format_plan, count_steps, find_cycle, lock_tick, stuck_robots, free_starts)
 ON_TICKS = (cells, boxes, holding)
+ON_ROBOTS = (stuck_from, unused_steps)
+# Both robots are stuck by this plan, unless robot 1 waits first.
+FACE_TO_FACE = plan_of("0 0 0 0", (0, "right; right; left; left; a: wait;"), (3, "left; left; right; right; a: wait;"))
 
 
 class TrueAndFalse(unittest.TestCase):
@@ -27,6 +33,14 @@ class TrueAndFalse(unittest.TestCase):
             for function in ON_TICKS:
                 self.assertEqual(fault_of(function, value, 0), ("SyntaxFault", 0, 0))
             self.assertEqual(fault_of(all_of, value, 0, 0), ("SyntaxFault", 0, 0))
+            for function in ON_ROBOTS:
+                self.assertEqual(fault_of(function, value, 0), ("SyntaxFault", 0, 0))
+            self.assertEqual(fault_of(count_blocked, value, 0, 0), ("SyntaxFault", 0, 0))
+            self.assertEqual(fault_of(count_done, value, 0, "wait", 0), ("SyntaxFault", 0, 0))
+            self.assertEqual(fault_of(plan_waits, value, 0), ("SyntaxFault", 0, 0))
+            self.assertEqual(fault_of(first_difference, value, EXAMPLE), ("SyntaxFault", 0, 0))
+            self.assertEqual(fault_of(first_difference, EXAMPLE, value), ("SyntaxFault", 0, 0))
+            self.assertEqual(fault_of(first_error, value, []), ("SyntaxFault", 0, 0))
 
     def test_are_no_ticks(self):
         for value in (True, False):
@@ -35,6 +49,21 @@ class TrueAndFalse(unittest.TestCase):
             self.assertEqual(fault_of(all_of, EXAMPLE, value, 1), ("InvalidTick",))
             self.assertEqual(fault_of(all_of, EXAMPLE, 0, value), ("InvalidTick",))
             self.assertEqual(fault_of(all_of, EXAMPLE, 1, value), ("InvalidTick",))
+            self.assertEqual(fault_of(count_blocked, EXAMPLE, 1, value), ("InvalidTick",))
+            self.assertEqual(fault_of(count_done, EXAMPLE, 1, "wait", value), ("InvalidTick",))
+
+    def test_are_no_numbers(self):
+        for value in (True, False):
+            for function in ON_ROBOTS:
+                self.assertEqual(fault_of(function, EXAMPLE, value), ("InvalidNumber",))
+            self.assertEqual(fault_of(count_blocked, EXAMPLE, value, 0), ("InvalidNumber",))
+            self.assertEqual(fault_of(count_done, EXAMPLE, value, "wait", 0), ("InvalidNumber",))
+            self.assertEqual(fault_of(plan_waits, EXAMPLE, value), ("InvalidNumber",))
+
+    def test_are_no_logs(self):
+        for value in (True, False):
+            self.assertEqual(first_error(EXAMPLE, value), 0)
+            self.assertEqual(first_error(EXAMPLE, [("pick", "wait"), value]), 1)
 
 
 class Arguments(unittest.TestCase):
@@ -49,6 +78,15 @@ class Arguments(unittest.TestCase):
                 self.assertIsNotNone(error_of(function, EXAMPLE, value))
             self.assertIsNotNone(error_of(all_of, EXAMPLE, value, value))
             self.assertIsNotNone(error_of(all_of, EXAMPLE, 0, value))
+            for function in ON_ROBOTS:
+                self.assertIsNotNone(error_of(function, value, value))
+                self.assertIsNotNone(error_of(function, EXAMPLE, value))
+            self.assertIsNotNone(error_of(count_blocked, EXAMPLE, value, value))
+            self.assertIsNotNone(error_of(count_done, EXAMPLE, 0, "wait", value))
+            self.assertIsNotNone(error_of(plan_waits, EXAMPLE, value))
+            self.assertIsNotNone(error_of(first_difference, EXAMPLE, value))
+            first_error(EXAMPLE, value)
+            first_error(EXAMPLE, [("pick", "wait"), value])
             self.assertEqual((type(value), value), (type(before), before))
 
     def test_are_passed_by_name_too(self):
@@ -59,21 +97,38 @@ class Arguments(unittest.TestCase):
         self.assertEqual(boxes(tick=2, plan=EXAMPLE), [0, 1, 0])
         self.assertEqual(holding(tick=1, plan=EXAMPLE), [0])
         self.assertEqual(list(trace(last=0, first=0, plan=EXAMPLE)), [(0, "pick", "wait")])
+        self.assertIsNone(lock_tick(plan=EXAMPLE))
+        self.assertEqual(stuck_robots(plan=EXAMPLE), [0])
+        self.assertEqual(stuck_from(number=0, plan=EXAMPLE), 4)
+        self.assertEqual(count_blocked(ticks=10, number=0, plan=EXAMPLE), 6)
+        self.assertEqual(count_done(ticks=10, word="pick", number=0, plan=EXAMPLE), 1)
+        self.assertEqual(unused_steps(number=0, plan=EXAMPLE), [])
+        self.assertEqual(plan_waits(limit=1, plan=FACE_TO_FACE)[0], [(1, 0)])
+        self.assertEqual(free_starts(plan=EXAMPLE), [])
+        self.assertIsNone(first_difference(other=EXAMPLE, plan=EXAMPLE))
+        self.assertEqual(first_error(log=[("pick", "wait"), ("left", "wait")], plan=EXAMPLE), 1)
 
 
 class Results(unittest.TestCase):
 
     def test_lists_are_new(self):
-        for function, expected in ((boxes, [0, 2, 2]), (holding, [0, 1])):
+        for function, arguments, expected in (
+            (boxes, (BOTH_HOLD, 5), [0, 2, 2]),
+            (holding, (BOTH_HOLD, 5), [0, 1]),
+            (stuck_robots, (FACE_TO_FACE,), [0, 1]),
+            (unused_steps, (FACE_TO_FACE, 1), [1, 2, 3, 4]),
+            (lambda plan, limit: plan_waits(plan, limit)[0], (FACE_TO_FACE, 1), [(1, 0)]),
+            (free_starts, ("shelf 0 0 0; robot 0 { wait; } robot 1 { right; left; }",), [(0, 1), (2, 0)]),
+        ):
             with self.subTest(function=function.__name__):
-                first = function(BOTH_HOLD, 5)
-                second = function(BOTH_HOLD, 5)
+                first = function(*arguments)
+                second = function(*arguments)
                 self.assertIsNot(first, second)
                 first.append(9)
                 first[0] = 7
                 self.assertEqual(second, expected)
                 second.clear()
-                self.assertEqual(function(BOTH_HOLD, 5), expected)
+                self.assertEqual(function(*arguments), expected)
 
     def test_repeated_calls_give_equal_results(self):
         def results():
@@ -83,7 +138,14 @@ class Results(unittest.TestCase):
                  for tick in (0, 3, 10 ** 18)],
                 [all_of(plan, 0, 9) for plan in (EXAMPLE, BOTH_HOLD)],
                 [fault_of(function, text) for function in ON_PLANS for text in ("", "shelf ?", None)],
-                [fault_of(function, EXAMPLE, -1) for function in ON_TICKS],
+                [function(plan, number) for function in ON_ROBOTS for plan in (EXAMPLE, BOTH_HOLD)
+                 for number in (0, 1)],
+                [count_blocked(plan, 1, 77) for plan in (EXAMPLE, BOTH_HOLD)],
+                [count_done(plan, 0, "pick", 77) for plan in (EXAMPLE, BOTH_HOLD)],
+                [plan_waits(plan, 1) for plan in (EXAMPLE, BOTH_HOLD, FACE_TO_FACE)],
+                [first_difference(plan, EXAMPLE) for plan in (EXAMPLE, BOTH_HOLD)],
+                [first_error(plan, [("pick", "wait"), ("right", "wait")]) for plan in (EXAMPLE, BOTH_HOLD)],
+                [fault_of(function, EXAMPLE, -1) for function in ON_TICKS + ON_ROBOTS],
             ]
         first = results()
         self.assertEqual(results(), first)
@@ -95,6 +157,8 @@ class Results(unittest.TestCase):
             self.assertIsNotNone(error_of(function, EXAMPLE + "?"))
         for function in ON_TICKS:
             self.assertIsNotNone(error_of(function, EXAMPLE, -1))
+        for function in ON_ROBOTS:
+            self.assertIsNotNone(error_of(function, EXAMPLE, 2))
         self.assertEqual([function(EXAMPLE) for function in ON_PLANS], before)
 
 
@@ -105,7 +169,16 @@ class OrderOfChecks(unittest.TestCase):
             for tick in (None, True, -1, "0"):
                 for function in ON_TICKS:
                     self.assertEqual(fault_of(function, plan, tick)[0], "SyntaxFault")
+                for function in ON_ROBOTS:
+                    self.assertEqual(fault_of(function, plan, tick)[0], "SyntaxFault")
                 self.assertEqual(fault_of(all_of, plan, tick, tick)[0], "SyntaxFault")
+                self.assertEqual(fault_of(count_done, plan, tick, "wait", tick)[0], "SyntaxFault")
+                self.assertEqual(fault_of(plan_waits, plan, tick)[0], "SyntaxFault")
+                self.assertEqual(fault_of(first_difference, plan, tick)[0], "SyntaxFault")
+        for number in (None, True, -1, "0"):
+            for ticks in (None, True, -1, "0"):
+                self.assertEqual(fault_of(count_blocked, EXAMPLE, number, ticks), ("InvalidNumber",))
+                self.assertEqual(fault_of(count_done, EXAMPLE, number, "wait", ticks), ("InvalidNumber",))
         # A first tick that is none is reported, although it cannot be compared with the last one.
         for first in (None, "a", [], (1,)):
             self.assertEqual(fault_of(all_of, EXAMPLE, first, 3), ("InvalidTick",))

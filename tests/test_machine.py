@@ -6,12 +6,10 @@ import unittest
 from shelfbots import machine
 from shelfbots.machine import boxes, cells, find_cycle, holding, trace
 from tests.helpers import (
-    EXAMPLE, FAR_TOO_LONG, JUST_IN_TIME, JUST_TOO_LONG, LATE_STANDSTILL, NOT_INTEGERS_NOT_STRINGS,
-    TOO_LATE_STANDSTILL, fault_of, plan_of,
+    EXAMPLE, FAR_TOO_LONG, JUST_IN_TIME, JUST_TOO_LONG, LAST_TICK, LATE_STANDSTILL, NOT_INTEGERS_NOT_STRINGS,
+    NOT_TICKS, TOO_LATE_STANDSTILL, fault_of, plan_of,
 )
 
-LAST_TICK = 10 ** 18
-NOT_TICKS = (*NOT_INTEGERS_NOT_STRINGS, -1, -2, -LAST_TICK, LAST_TICK + 1, 2 * LAST_TICK, 10 ** 30, "", "0", "a")
 # Robot 0 needs 3 ticks for its steps, robot 1 needs 4, and nothing blocks them.
 THREE_AND_FOUR = plan_of("1 0 0 0 2", (0, "pick; put; wait;"), (4, "left; right; pick; put;"))
 # Robot 0 moves three boxes and is blocked then, robot 1 goes on.

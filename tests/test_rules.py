@@ -13,6 +13,9 @@ INTERFACE = {
                "InvalidOperation"),
     "formatter": ("format_plan", "count_steps"),
     "machine": ("cells", "boxes", "holding", "trace", "find_cycle"),
+    "locks": ("lock_tick", "stuck_robots", "stuck_from", "count_blocked", "count_done", "unused_steps"),
+    "planning": ("plan_waits", "free_starts"),
+    "comparison": ("first_difference", "first_error"),
 }
 BARRED_NODES = (
     ast.Global, ast.AsyncFunctionDef, ast.Await, ast.AsyncFor, ast.AsyncWith, ast.Import, ast.Div, ast.MatMult,
