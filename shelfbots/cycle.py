@@ -2,17 +2,17 @@
 
 from shelfbots.errors import TooLong
 from shelfbots.limits import LAST_TICK_TO_REPEAT
-from shelfbots.situation import BLOCKED, Situation
+from shelfbots.situation import BLOCKED, Situation, beginning
 
 
 class Run:
     """What happens by a plan; all later ticks repeat those that are kept here."""
 
     def __init__(self, plan):
-        situation = Situation(plan)
+        before = beginning(plan)
+        situation = Situation(plan.steps, before)
         ticks = {}
         words = []
-        before = situation.frozen()
         while before not in ticks:
             if len(ticks) == LAST_TICK_TO_REPEAT:
                 raise TooLong(f"no situation comes again up to tick {LAST_TICK_TO_REPEAT}")

@@ -6,6 +6,7 @@ LETTERS = "abcdefghijklmnopqrstuvwxyz"
 DIGITS = "0123456789"
 SIGNS = (";", ":", "{", "}")
 JUMPS = ("goto", "empty", "held")
+# The number of a command in a list of bytes is its place here.
 COMMANDS = ("left", "right", "pick", "put", "wait", "goto", "empty", "held")
 KEYWORDS = ("shelf", "robot", "left", "right", "pick", "put", "wait", "goto", "empty", "held")
 LONGEST_NAME = 8

@@ -1,4 +1,4 @@
-"""The limits of ticks and numbers (points 5 to 8 of the document), and their checks."""
+"""The limits of ticks and numbers (points 5 to 8, 10 and 12 of the document), and their checks."""
 
 from shelfbots.errors import InvalidNumber, InvalidTick
 
@@ -7,6 +7,7 @@ LONGEST_TRACE = 500
 LAST_TICK_TO_REPEAT = 20000
 ROBOTS = (0, 1)
 MOST_WAITS = 3
+MOST_TICKS_OF_A_STEP = 500
 
 
 def is_number(value):
@@ -28,13 +29,27 @@ def check_last_tick(first, last):
         raise InvalidTick(f"the last tick is an integer from {first - 1} to {latest}")
 
 
+def check_number(number, last):
+    """Raises InvalidNumber if a value is not an integer from 0 to a last one."""
+    if not is_number(number) or number < 0 or number > last:
+        raise InvalidNumber(f"the number is an integer from 0 to {last}")
+
+
 def check_robot(number):
     """Raises InvalidNumber if a value is not the number of a robot."""
-    if not is_number(number) or number not in ROBOTS:
-        raise InvalidNumber("a robot has the number 0 or 1")
+    check_number(number, len(ROBOTS) - 1)
 
 
 def check_limit(limit):
     """Raises InvalidNumber if a value is not a limit of waits."""
-    if not is_number(limit) or limit < 0 or limit > MOST_WAITS:
-        raise InvalidNumber(f"a limit of waits is an integer from 0 to {MOST_WAITS}")
+    check_number(limit, MOST_WAITS)
+
+
+def check_many_ticks(count):
+    """Raises InvalidNumber if a stage does not let so many ticks pass at once."""
+    check_number(count, MOST_TICKS_OF_A_STEP)
+
+
+def check_cell(cell, boxes):
+    """Raises InvalidNumber if a value is not a cell of a shelf with these boxes."""
+    check_number(cell, len(boxes) - 1)

@@ -3,7 +3,7 @@
 from shelfbots.cycle import Run
 from shelfbots.formatter import plan_text
 from shelfbots.limits import ROBOTS, check_limit
-from shelfbots.plans import MOST_STEPS, Plan, read_plan
+from shelfbots.plans import MOST_STEPS, Plan, plans_with_all_starts, read_plan
 
 # A step that does nothing and does not jump.
 WAIT = ("wait", None)
@@ -24,10 +24,8 @@ def plan_waits(plan, limit):
 
 def free_starts(plan):
     """Returns the ascending list of all starts with which no robot is stuck."""
-    checked = read_plan(plan)
-    numbers = list(range(len(checked.boxes)))
-    starts = [(first, second) for first in numbers for second in numbers if first != second]
-    return [start for start in starts if is_free(Plan(checked.boxes, start, checked.steps))]
+    plans = plans_with_all_starts(read_plan(plan))
+    return [other.first_cells for other in plans if is_free(other)]
 
 
 def is_free(plan):

@@ -47,6 +47,13 @@ def linked_plan(tokens):
     return Plan(boxes, first_cells, steps)
 
 
+def plans_with_all_starts(plan):
+    """Returns the list of the plans with each pair of different cells as starts, by ascending starts."""
+    numbers = list(range(len(plan.boxes)))
+    starts = [(first, second) for first in numbers for second in numbers if first != second]
+    return [Plan(plan.boxes, start, plan.steps) for start in starts]
+
+
 def linked_steps(steps):
     """Returns the steps of a robot, with the numbers of steps instead of names."""
     labels = first_labels(steps)

@@ -6,15 +6,21 @@ from shelfbots.plans import MOST_BOXES
 BLOCKED = "blocked"
 
 
+def beginning(plan):
+    """Returns the frozen situation in the beginning."""
+    return (plan.first_cells, (False, False), (0, 0), tuple(plan.boxes))
+
+
 class Situation:
     """Where the robots and the boxes are, and which steps are the next ones."""
 
-    def __init__(self, plan):
-        self.steps = plan.steps
-        self.robot_cells = list(plan.first_cells)
-        self.loaded = [False, False]
-        self.next_steps = [0, 0]
-        self.boxes = list(plan.boxes)
+    def __init__(self, steps, frozen):
+        robot_cells, loaded, next_steps, boxes = frozen
+        self.steps = steps
+        self.robot_cells = list(robot_cells)
+        self.loaded = list(loaded)
+        self.next_steps = list(next_steps)
+        self.boxes = list(boxes)
 
     def frozen(self):
         """Returns the cells of the robots, what they hold, the next steps and the boxes, as tuples."""

@@ -1,6 +1,7 @@
 """What several tests need: plans, and checks of the errors that a call raises."""
 
 from shelfbots.errors import BotError
+from tests.slow import Refusal
 
 # The plan of the examples in the document.
 EXAMPLE = "shelf 1 0 0; robot 0 { pick; right; put; left; } robot 2 { wait; }"
@@ -126,3 +127,35 @@ def fault_of(call, *arguments):
     """Returns what is told of the error that a call raises, or None."""
     error = error_of(call, *arguments)
     return None if error is None else told(error)
+
+
+def outcome_of(call, *arguments):
+    """Returns the kind of what a call returns and that itself, or None and what is told of the error."""
+    try:
+        result = call(*arguments)
+    except BotError as error:
+        return (None, told(error))
+    except Refusal as refusal:
+        return (None, refusal.args)
+    return (type(result), result)
+
+
+def stage_told(stage):
+    """Returns all that can be found out about a stage: what it tells now, behind each undo and behind each redo."""
+    stage.save("told")
+    rows = [stage_row(stage)]
+    while stage.undo():
+        rows.append(stage_row(stage))
+    stage.restore("told")
+    while stage.redo():
+        rows.append(stage_row(stage))
+    stage.restore("told")
+    return rows
+
+
+def stage_row(stage):
+    """Returns all that a stage tells now, with the next steps, and leaves it as it was."""
+    stage.save("row")
+    next_steps = (stage.jump(0, 0), stage.jump(1, 0))
+    stage.restore("row")
+    return (stage.passed, stage.places, stage.shelf_boxes, stage.held, stage.blocked, next_steps, stage.operations)

@@ -4,10 +4,13 @@ import copy
 import unittest
 
 from shelfbots.comparison import first_difference, first_error
+from shelfbots.encoding import decode, encode
 from shelfbots.formatter import count_steps, format_plan
 from shelfbots.locks import count_blocked, count_done, lock_tick, stuck_from, stuck_robots, unused_steps
 from shelfbots.machine import boxes, cells, find_cycle, holding, trace
 from shelfbots.planning import free_starts, plan_waits
+from shelfbots.stage import Stage
+from shelfbots.watching import Camera
 from tests.helpers import EXAMPLE, NOT_INTEGERS_NOT_STRINGS, error_of, fault_of, plan_of
 
 BOTH_HOLD = plan_of("1 2 3", (0, "pick; wait;"), (2, "pick; wait;"))
@@ -17,7 +20,7 @@ def all_of(plan, first, last):
     return list(trace(plan, first, last))
 
 
-ON_PLANS = (format_plan, count_steps, find_cycle, lock_tick, stuck_robots, free_starts)
+ON_PLANS = (format_plan, count_steps, find_cycle, lock_tick, stuck_robots, free_starts, encode)
 ON_TICKS = (cells, boxes, holding)
 ON_ROBOTS = (stuck_from, unused_steps)
 # Both robots are stuck by this plan, unless robot 1 waits first.
@@ -41,6 +44,9 @@ class TrueAndFalse(unittest.TestCase):
             self.assertEqual(fault_of(first_difference, value, EXAMPLE), ("SyntaxFault", 0, 0))
             self.assertEqual(fault_of(first_difference, EXAMPLE, value), ("SyntaxFault", 0, 0))
             self.assertEqual(fault_of(first_error, value, []), ("SyntaxFault", 0, 0))
+            self.assertEqual(fault_of(Camera, value, 0), ("SyntaxFault", 0, 0))
+            self.assertEqual(fault_of(Stage, value), ("SyntaxFault", 0, 0))
+            self.assertEqual(fault_of(Stage.replay, value, []), ("SyntaxFault", 0, 0))
 
     def test_are_no_ticks(self):
         for value in (True, False):
@@ -51,6 +57,9 @@ class TrueAndFalse(unittest.TestCase):
             self.assertEqual(fault_of(all_of, EXAMPLE, 1, value), ("InvalidTick",))
             self.assertEqual(fault_of(count_blocked, EXAMPLE, 1, value), ("InvalidTick",))
             self.assertEqual(fault_of(count_done, EXAMPLE, 1, "wait", value), ("InvalidTick",))
+            self.assertEqual(fault_of(Camera(EXAMPLE, 0).see, value, True), ("InvalidTick",))
+            self.assertEqual(fault_of(Camera(EXAMPLE, 0).see_from, value, True), ("InvalidTick",))
+            self.assertEqual(fault_of(Camera(EXAMPLE, 0).possible, value), ("InvalidTick",))
 
     def test_are_no_numbers(self):
         for value in (True, False):
@@ -59,11 +68,29 @@ class TrueAndFalse(unittest.TestCase):
             self.assertEqual(fault_of(count_blocked, EXAMPLE, value, 0), ("InvalidNumber",))
             self.assertEqual(fault_of(count_done, EXAMPLE, value, "wait", 0), ("InvalidNumber",))
             self.assertEqual(fault_of(plan_waits, EXAMPLE, value), ("InvalidNumber",))
+            self.assertEqual(fault_of(Camera, EXAMPLE, value), ("InvalidNumber",))
+            stage = Stage("shelf 1 1 1; robot 0 { wait; wait; } robot 1 { wait; wait; }")
+            for method in (stage.step, stage.add, stage.take):
+                self.assertEqual(fault_of(method, value), ("InvalidNumber",))
+            self.assertEqual(fault_of(stage.jump, value, 0), ("InvalidNumber",))
+            self.assertEqual(fault_of(stage.jump, 0, value), ("InvalidNumber",))
+            self.assertEqual(stage.operations, [])
 
     def test_are_no_logs(self):
         for value in (True, False):
             self.assertEqual(first_error(EXAMPLE, value), 0)
             self.assertEqual(first_error(EXAMPLE, [("pick", "wait"), value]), 1)
+
+    def test_are_no_bytes_names_and_operations(self):
+        for value in (True, False):
+            self.assertEqual(fault_of(decode, value), ("InvalidCode", 0))
+            self.assertEqual(fault_of(decode, [83, 3, value]), ("InvalidCode", 2))
+            stage = Stage(EXAMPLE)
+            self.assertEqual(fault_of(stage.save, value), ("InvalidName",))
+            self.assertEqual(fault_of(stage.restore, value), ("UnknownName",))
+            self.assertEqual(fault_of(stage.batch, value), ("InvalidOperation", 0))
+            self.assertEqual(fault_of(stage.batch, [("undo",), value]), ("InvalidOperation", 1))
+            self.assertEqual(fault_of(stage.batch, [("step", value)]), ("InvalidNumber",))
 
 
 class Arguments(unittest.TestCase):
@@ -87,6 +114,13 @@ class Arguments(unittest.TestCase):
             self.assertIsNotNone(error_of(first_difference, EXAMPLE, value))
             first_error(EXAMPLE, value)
             first_error(EXAMPLE, [("pick", "wait"), value])
+            for function in (decode, Stage, Camera(EXAMPLE, 0).possible, Stage(EXAMPLE).step, Stage(EXAMPLE).add,
+                             Stage(EXAMPLE).take, Stage(EXAMPLE).save, Stage(EXAMPLE).restore):
+                self.assertIsNotNone(error_of(function, value))
+            for function in (Camera, Camera(EXAMPLE, 0).see, Stage(EXAMPLE).jump, Stage.replay):
+                self.assertIsNotNone(error_of(function, value, value))
+            self.assertIsNotNone(error_of(Camera, EXAMPLE, value))
+            error_of(Stage(EXAMPLE).batch, value)
             self.assertEqual((type(value), value), (type(before), before))
 
     def test_are_passed_by_name_too(self):
@@ -107,6 +141,18 @@ class Arguments(unittest.TestCase):
         self.assertEqual(free_starts(plan=EXAMPLE), [])
         self.assertIsNone(first_difference(other=EXAMPLE, plan=EXAMPLE))
         self.assertEqual(first_error(log=[("pick", "wait"), ("left", "wait")], plan=EXAMPLE), 1)
+        self.assertEqual(decode(code=encode(plan=EXAMPLE)), format_plan(EXAMPLE))
+        camera = Camera(cell=1, plan=EXAMPLE)
+        self.assertEqual(camera.see(is_there=False, tick=0), 2)
+        self.assertEqual(camera.see_from(first=0), 2)
+        self.assertEqual(camera.possible(tick=0), [0, 2])
+        stage = Stage(plan=EXAMPLE)
+        self.assertEqual(stage.step(count=1), [("pick", "wait")])
+        self.assertEqual((stage.add(cell=1), stage.take(cell=1), stage.jump(step=0, number=0)), (1, 0, 1))
+        stage.save(name="a")
+        stage.restore(name="a")
+        self.assertEqual(stage.batch(operations=[("undo",)]), [True])
+        self.assertEqual(Stage.replay(operations=[("step", 1)], plan=EXAMPLE).passed, 1)
 
 
 class Results(unittest.TestCase):
@@ -175,6 +221,8 @@ class OrderOfChecks(unittest.TestCase):
                 self.assertEqual(fault_of(count_done, plan, tick, "wait", tick)[0], "SyntaxFault")
                 self.assertEqual(fault_of(plan_waits, plan, tick)[0], "SyntaxFault")
                 self.assertEqual(fault_of(first_difference, plan, tick)[0], "SyntaxFault")
+                self.assertEqual(fault_of(Camera, plan, tick)[0], "SyntaxFault")
+                self.assertEqual(fault_of(Stage.replay, plan, tick)[0], "SyntaxFault")
         for number in (None, True, -1, "0"):
             for ticks in (None, True, -1, "0"):
                 self.assertEqual(fault_of(count_blocked, EXAMPLE, number, ticks), ("InvalidNumber",))

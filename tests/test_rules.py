@@ -6,7 +6,7 @@ import unittest
 
 PACKAGE = pathlib.Path(__file__).resolve().parent.parent / "shelfbots"
 FILES = sorted(PACKAGE.rglob("*.py"))
-# What the interface lists for each file, as far as it is written.
+# What the interface lists for each file.
 INTERFACE = {
     "errors": ("BotError", "SyntaxFault", "CheckFault", "InvalidTick", "InvalidNumber", "TooLong", "DifferentShelves",
                "Contradiction", "InvalidCode", "CellFull", "CellEmpty", "InvalidName", "UnknownName",
@@ -16,6 +16,15 @@ INTERFACE = {
     "locks": ("lock_tick", "stuck_robots", "stuck_from", "count_blocked", "count_done", "unused_steps"),
     "planning": ("plan_waits", "free_starts"),
     "comparison": ("first_difference", "first_error"),
+    "watching": ("Camera",),
+    "encoding": ("encode", "decode"),
+    "stage": ("Stage",),
+}
+# What the interface lists for each class; all of it stands in the body of the class itself.
+METHODS = {
+    "watching": {"Camera": ("__init__", "see", "see_from", "starts", "history", "possible")},
+    "stage": {"Stage": ("__init__", "step", "add", "take", "jump", "undo", "redo", "passed", "places", "shelf_boxes",
+                        "held", "blocked", "operations", "save", "restore", "batch", "replay")},
 }
 BARRED_NODES = (
     ast.Global, ast.AsyncFunctionDef, ast.Await, ast.AsyncFor, ast.AsyncWith, ast.Import, ast.Div, ast.MatMult,
@@ -69,6 +78,14 @@ class RulesTest(unittest.TestCase):
             tree = ast.parse((PACKAGE / f"{name}.py").read_text(encoding="utf-8"))
             defined = {node.name for node in tree.body if isinstance(node, (ast.FunctionDef, ast.ClassDef))}
             self.assertLessEqual(set(expected), defined)
+
+    def test_methods_are_defined_in_their_classes(self):
+        for name, classes in METHODS.items():
+            tree = ast.parse((PACKAGE / f"{name}.py").read_text(encoding="utf-8"))
+            bodies = {node.name: node.body for node in tree.body if isinstance(node, ast.ClassDef)}
+            for owner, expected in classes.items():
+                defined = {node.name for node in bodies[owner] if isinstance(node, ast.FunctionDef)}
+                self.assertLessEqual(set(expected), defined)
 
 
 def names_of(tree):
